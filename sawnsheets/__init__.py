@@ -1,0 +1,1 @@
+"""Sheets of wood that are sawn in a packet."""
