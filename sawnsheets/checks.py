@@ -1,8 +1,9 @@
-"""What counts as a number, as a size and as a sheet."""
+"""What counts as a number, as a size, as a sheet and as kinds of wood."""
 
 LONGEST_SIDE = 4
 MOST_CELLS = 9
 MOST_SHEETS = 4
+UNREAD = "?"
 
 
 def is_number(value):
@@ -10,9 +11,14 @@ def is_number(value):
     return isinstance(value, int) and not isinstance(value, bool)
 
 
+def is_from_to(value, least, most):
+    """Tell whether a value is an integer from a least to a greatest one."""
+    return is_number(value) and least <= value <= most
+
+
 def is_side(value):
     """Tell whether a value can be the width or the height of a sheet."""
-    return is_number(value) and 1 <= value <= LONGEST_SIDE
+    return is_from_to(value, 1, LONGEST_SIDE)
 
 
 def is_size(width, height):
@@ -32,3 +38,15 @@ def are_sheets(value, cells):
     if not isinstance(value, tuple) or not 1 <= len(value) <= MOST_SHEETS:
         return False
     return all([is_sheet(sheet, cells) for sheet in value])
+
+
+def is_worn(value, cells):
+    """Tell whether a value is a text with a letter or the sign of an unread cell for each cell."""
+    return isinstance(value, str) and is_sheet(value.replace(UNREAD, "a"), cells)
+
+
+def are_kinds(value):
+    """Tell whether a value is an ascending text of as many letters as there can be sheets."""
+    if not isinstance(value, str) or not 1 <= len(value) <= MOST_SHEETS:
+        return False
+    return is_sheet(value, len(value)) and sorted(value) == list(value)

@@ -1,7 +1,7 @@
 """Packets of sheets, and the patterns by which they are sawn."""
 
 from sawnsheets.checks import are_sheets, is_number, is_side, is_size
-from sawnsheets.errors import InvalidPacket, InvalidPattern, InvalidSize
+from sawnsheets.errors import InvalidGoals, InvalidPacket, InvalidPattern, InvalidSize
 
 
 class Packet:
@@ -54,6 +54,13 @@ def wrong_part(width, height, sheets):
     return None
 
 
+def goal_packet(packet, goals):
+    """Return the packet with goals as its sheets, or raise InvalidGoals if they do not fit a packet."""
+    if not are_sheets(goals, packet.cells) or len(goals) != len(packet):
+        raise InvalidGoals("not as many good sheets as the packet has")
+    return Packet(packet.width, packet.height, goals)
+
+
 def sides(width, cells):
     """Return all pairs of cells that have a side in common."""
     across = [(cell, cell + 1) for cell in range(cells) if (cell + 1) % width > 0]
@@ -75,6 +82,12 @@ def parted(width, labels):
             firsts = [low if first == high else first for first in firsts]
     order = sorted(set(firsts))
     return tuple([order.index(first) for first in firsts])
+
+
+def check_size(width, height):
+    """Raise InvalidSize if there are no sheets with a width and a height."""
+    if not is_size(width, height):
+        raise InvalidSize("no sheets have this width and this height")
 
 
 def is_pattern(width, height, value):
@@ -110,8 +123,7 @@ def all_patterns(width, cells):
 
 def patterns(width, height):
     """Yield all patterns for sheets of a size, in tuple order."""
-    if not is_size(width, height):
-        raise InvalidSize("no sheets have this width and this height")
+    check_size(width, height)
     for pattern in all_patterns(width, width * height):
         yield pattern
 

@@ -4,9 +4,20 @@ from itertools import permutations, product
 from unittest import TestCase
 
 from sawnsheets import errors
+from sawnsheets.packets import Packet
 
 SIZES = [(width, height) for width in range(1, 5) for height in range(1, 5) if width * height <= 9]
 BAD_SIZES = [(0, 1), (1, 0), (5, 1), (1, 5), (-1, 2), (2, -1), (3, 4), (4, 3), (4, 4), (True, 1), (1, True), (False, 1)]
+# Values that are no pattern, no picture and no goals for a packet of 2 x 2 cells with two sheets.
+NO_PATTERNS = [(0, 1, 1, 0), (0, 0, 0), (1, 1, 1, 1), (False, False, False, False), [0, 0, 1, 1], None]
+NO_PICTURES = [
+    "", "abc", "abcde", "abcA", "abc?", "abc ", "abc1", "ab\u00e4c", None, 4, ("a", "b", "a", "b"), list("abab"),
+]
+NO_GOALS = [
+    (), ("abab",), ("abab", "cccc", "abab"), ("aba", "cccc"), ("abab", "ccccc"), ("", ""), ("abab", "ccc?"),
+    ("abaB", "cccc"), ("ab b", "cccc"), ("abab", "cc1c"), ("abab", "cc\u00e4c"), ("abab", None), (1, "cccc"),
+    (("a", "b", "a", "b"), "cccc"), ("abab", ["c"] * 4), ["abab", "cccc"], "ab", "abab", None, 2,
+]
 
 
 class SheetTest(TestCase):
@@ -95,3 +106,41 @@ def sheets_by(packet, pattern, orders):
                 row[cell] = packet.sheets[orders[number][sheet]][cell]
         rows.append("".join(row))
     return tuple(rows)
+
+
+def sheets_by_cut(packet, pattern):
+    """Return all different sheets that can lie in a packet behind a pattern."""
+    return sorted({sheets_by(packet, pattern, orders) for orders in all_orders(packet, pattern)})
+
+
+def saw_length_tried(width, height, pattern):
+    """Return how many sides a pattern saws, each of them being seen from both of its cells."""
+    return sum(pattern[cell] != pattern[near] for cell in range(width * height)
+               for near in neighbours(width, height, cell)) // 2
+
+
+def steps_needed(start, steps):
+    """Return a dict from all sheets that steps lead to, from a packet on, to the least number of steps."""
+    needed, ahead = {start.sheets: 0}, [start.sheets]
+    for sheets in ahead:
+        for new in steps(Packet(start.width, start.height, sheets)):
+            if new not in needed:
+                needed[new] = needed[sheets] + 1
+                ahead.append(new)
+    return needed
+
+
+def cuts_needed(packet, cuts):
+    """Return a dict from all sheets that can come by some patterns to the least number of cuts."""
+    return steps_needed(packet, lambda now: [sheets for pattern in cuts for sheets in sheets_by_cut(now, pattern)])
+
+
+def all_sheets(packet, letters):
+    """Return all tuples of sheets of letters that are as large and as many as those of a packet."""
+    texts = ["".join(row) for row in product(letters, repeat=packet.cells)]
+    return list(product(texts, repeat=len(packet)))
+
+
+def letters_of(packet):
+    """Return the ascending letters of a packet."""
+    return sorted(set("".join(packet.sheets)))

@@ -4,7 +4,7 @@ from itertools import permutations, product
 
 from sawnsheets.laying import beside, can_show, laid, orders_for, packet_count, picture_count, undone
 from sawnsheets.packets import Packet
-from tests.support import SheetTest, all_orders, patterns_tried, sheets_by
+from tests.support import NO_PATTERNS, NO_PICTURES, SheetTest, all_orders, patterns_tried, sheets_by
 
 # Among them equal sheets, equal pieces on unlike sheets, and up to four sheets.
 PACKETS = [
@@ -15,10 +15,6 @@ PACKETS = [
     Packet(2, 2, ("abca",)), Packet(2, 2, ("bacb", "abca", "bbca")),
 ]
 CASES = [(packet, pattern) for packet in PACKETS for pattern in patterns_tried(packet.width, packet.height)]
-NO_PICTURES = [
-    "", "abc", "abcde", "abcA", "abc?", "abc ", "abc1", "ab\u00e4c", None, 4, ("a", "b", "a", "b"), list("abab"),
-]
-NO_PATTERNS = [(0, 1, 1, 0), (0, 0, 0), (1, 1, 1, 1), (False, False, False, False), [0, 0, 1, 1], None]
 TWO = Packet(2, 2, ("abab", "cccc"))
 ROWS = (0, 0, 1, 1)
 
