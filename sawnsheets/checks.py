@@ -1,5 +1,7 @@
 """What counts as a number, as a size, as a sheet and as kinds of wood."""
 
+LETTERS = "abcdefghijklmnopqrstuvwxyz"
+DIGITS = "0123456789"
 LONGEST_SIDE = 4
 MOST_CELLS = 9
 MOST_SHEETS = 4
@@ -14,6 +16,13 @@ def is_number(value):
 def is_from_to(value, least, most):
     """Tell whether a value is an integer from a least to a greatest one."""
     return is_number(value) and least <= value <= most
+
+
+def is_ascending(value, known):
+    """Tell whether a value is an ascending tuple of known numbers, each at most once."""
+    if not isinstance(value, tuple) or not all([is_number(number) and number in known for number in value]):
+        return False
+    return list(value) == sorted(set(value))
 
 
 def is_side(value):

@@ -1,8 +1,7 @@
 """What never changes, however a packet is sawn: the letters that lie on each cell."""
 
+from sawnsheets.checks import LETTERS
 from sawnsheets.packets import Packet, goal_packet
-
-LETTERS = "abcdefghijklmnopqrstuvwxyz"
 
 
 def columns(packet):

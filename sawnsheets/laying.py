@@ -1,5 +1,6 @@
 """Pieces that are exchanged, and the packets and pictures that come of it."""
 
+from itertools import permutations
 from math import factorial
 
 from sawnsheets.checks import is_number, is_sheet
@@ -55,6 +56,17 @@ def texts_of(packet, pattern):
     return [[text_on(sheet, cells) for sheet in packet.sheets] for cells in pieces(packet, pattern)]
 
 
+def places_in_pieces(packet, pattern):
+    """Return for each cell the number of its piece and its place among the cells of this piece."""
+    cells_of_pieces = pieces(packet, pattern)
+    return [(number, cells_of_pieces[number].index(cell)) for cell, number in enumerate(pattern)]
+
+
+def different_orders(texts):
+    """Return the ascending list of the different orders, as tuples, in which texts can lie."""
+    return sorted({order for order in permutations(list(texts))})
+
+
 def arrangement_count(texts):
     """Return in how many different orders texts can lie, some of which may be equal."""
     count = factorial(len(texts))
@@ -63,20 +75,22 @@ def arrangement_count(texts):
     return count
 
 
+def multiplied(numbers):
+    """Return the product of some numbers."""
+    result = 1
+    for number in numbers:
+        result = result * number
+    return result
+
+
 def packet_count(packet, pattern):
     """Return how many different packets can come by a pattern."""
-    count = 1
-    for texts in texts_of(packet, pattern):
-        count = count * arrangement_count(texts)
-    return count
+    return multiplied([arrangement_count(texts) for texts in texts_of(packet, pattern)])
 
 
 def picture_count(packet, pattern):
     """Return how many different pictures can come on one sheet by a pattern."""
-    count = 1
-    for texts in texts_of(packet, pattern):
-        count = count * len(set(texts))
-    return count
+    return multiplied([len(set(texts)) for texts in texts_of(packet, pattern)])
 
 
 def choices(packet, pattern, picture):

@@ -1,7 +1,10 @@
 """Packets of sheets, and the patterns by which they are sawn."""
 
-from sawnsheets.checks import are_sheets, is_number, is_side, is_size
-from sawnsheets.errors import InvalidGoals, InvalidPacket, InvalidPattern, InvalidSize
+from sawnsheets.checks import are_sheets, is_from_to, is_number, is_side, is_size
+from sawnsheets.errors import (InvalidGoals, InvalidPacket, InvalidPattern, InvalidRow, InvalidSize, UnknownCell,
+                               UnknownSheet)
+
+LONGEST_ROW = 5
 
 
 class Packet:
@@ -61,6 +64,23 @@ def goal_packet(packet, goals):
     return Packet(packet.width, packet.height, goals)
 
 
+def rows_of(packet, signs):
+    """Return the list of the rows of a sheet or of a pattern, which has a sign or a number for each cell."""
+    return [signs[first:first + packet.width] for first in range(0, packet.cells, packet.width)]
+
+
+def check_sheet(packet, index):
+    """Raise UnknownSheet for what is no index of a sheet."""
+    if not is_from_to(index, 0, len(packet) - 1):
+        raise UnknownSheet("no sheet has this index")
+
+
+def check_cell(packet, cell):
+    """Raise UnknownCell for what is no number of a cell."""
+    if not is_from_to(cell, 0, packet.cells - 1):
+        raise UnknownCell("no cell has this number")
+
+
 def sides(width, cells):
     """Return all pairs of cells that have a side in common."""
     across = [(cell, cell + 1) for cell in range(cells) if (cell + 1) % width > 0]
@@ -104,6 +124,15 @@ def check_pattern(packet, pattern):
     """Raise InvalidPattern for what is no pattern for a packet."""
     if not is_pattern(packet.width, packet.height, pattern):
         raise InvalidPattern("no pattern for the cells of this packet")
+
+
+def check_row(packet, row):
+    """Raise InvalidRow for the first pattern of a row that is none or superfluous, or if there are none."""
+    for index, pattern in enumerate(row):
+        if index >= LONGEST_ROW or not is_pattern(packet.width, packet.height, pattern):
+            raise InvalidRow(index)
+    if len(row) == 0:
+        raise InvalidRow(0)
 
 
 def glued(width, pattern, one, other):

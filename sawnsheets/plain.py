@@ -3,7 +3,7 @@
 from sawnsheets.checks import MOST_SHEETS, UNREAD, are_kinds, is_sheet, is_worn
 from sawnsheets.columns import columns
 from sawnsheets.errors import InvalidKinds, InvalidPictures
-from sawnsheets.laying import arrangement_count
+from sawnsheets.laying import arrangement_count, multiplied
 from sawnsheets.packets import Packet, check_size
 
 
@@ -64,10 +64,7 @@ def lost_count(width, height, kinds, pictures):
     found = lost_columns(width, height, kinds, pictures)
     if found is None:
         return 0
-    count = 1
-    for letters in found:
-        count = count * arrangement_count(letters)
-    return count
+    return multiplied([arrangement_count(letters) for letters in found])
 
 
 def first_lost(width, height, kinds, pictures):

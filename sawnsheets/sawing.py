@@ -1,11 +1,9 @@
 """The least sawing for a picture or for all sheets, and the fewest cuts."""
 
-from itertools import permutations
-
 from sawnsheets.checks import is_from_to
 from sawnsheets.columns import columns
 from sawnsheets.errors import InvalidNumber, TooMany
-from sawnsheets.laying import can_show, text_on
+from sawnsheets.laying import can_show, different_orders, text_on
 from sawnsheets.packets import all_patterns, goal_packet, pieces, saw_length
 
 LONGEST_CUT = 12
@@ -52,8 +50,7 @@ def arrangements(packet):
     """Return the list of all sheets, as tuples, that a packet can have behind any cuts."""
     found = [("",) * len(packet)]
     for column in columns(packet):
-        orders = sorted({order for order in permutations(column)})
-        found = [added(sheets, order) for sheets in found for order in orders]
+        found = [added(sheets, order) for sheets in found for order in different_orders(column)]
     return found
 
 

@@ -1,6 +1,6 @@
 """Pieces that are turned by a half in their outlines, all that lie one over another at once."""
 
-from sawnsheets.checks import is_number
+from sawnsheets.checks import is_ascending
 from sawnsheets.columns import columns
 from sawnsheets.errors import InvalidPieces
 from sawnsheets.packets import Packet, goal_packet, pieces
@@ -37,10 +37,8 @@ def sources(packet, pattern, some):
 
 def check_pieces(some, known):
     """Raise InvalidPieces for what is no ascending tuple of known numbers."""
-    if not isinstance(some, tuple) or not all([is_number(number) and number in known for number in some]):
-        raise InvalidPieces("not a tuple of pieces that can be turned")
-    if list(some) != sorted(set(some)):
-        raise InvalidPieces("not ascending, or not each piece once")
+    if not is_ascending(some, known):
+        raise InvalidPieces("no ascending tuple of pieces that can be turned")
 
 
 def turned(packet, pattern, some):
