@@ -217,13 +217,14 @@ class Trial:
 
     def __init__(self, bench):
         self._bench = bench
-        self._held = False
+        # None or True, as `__exit__` is to ask of it only whether it is None.
+        self._held = None
         self._operations = []
         self._stands = []
         self._done = 0
 
     def __enter__(self):
-        self._held = False
+        self._held = None
         self._operations = self._bench._operations
         self._stands = self._bench._stands
         self._done = self._bench._done
@@ -231,7 +232,7 @@ class Trial:
 
     def __exit__(self, kind, value, trace):
         bench = self._bench
-        if not self._held:
+        if self._held is None:
             bench._operations = self._operations
             bench._stands = self._stands
             bench._done = self._done

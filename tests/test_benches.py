@@ -607,6 +607,30 @@ class TrialTest(SheetTest):
                 bench.glue()
             self.assertEqual(bench.history, [("over", 0)])
 
+    def test_one_trial_for_two_blocks(self):
+        bench = Bench(TWO)
+        trial = Trial(bench)
+        with trial:
+            bench.over(0)
+            bench.saw(ROWS)
+            bench.undo()
+            trial.hold()
+        before = told_there_and_back(bench)
+        self.assertEqual(bench.history, [("over", 0)])
+        with trial:
+            bench.redo()
+            bench.keep_as("x")
+        self.assertEqual(told_there_and_back(bench), before)
+        with self.assertRaises(NotWhole):
+            with trial:
+                bench.redo()
+                bench.over(1)
+        self.assertEqual(told_there_and_back(bench), before)
+        with trial:
+            bench.glue()
+            trial.hold()
+        self.assertEqual(bench.history, [("over", 0), ("glue",)])
+
     def test_tried_out(self):
         bench = Bench(TWO)
         bench.apply_all(WORKED[:2])
